@@ -1,0 +1,1 @@
+"""Mergereach: which versions three-way merging can ever produce."""
