@@ -4,6 +4,7 @@ from mergereach.errors import InvalidSchema, InvalidText, InvalidVersion, Invali
 
 LETTERS = "abcdefghijklmnopqrstuvwxyz"
 MOST_LETTERS = 8
+MINE = "mine"
 COUNTER = "counter"
 KINDS = ("mine", "theirs", "counter")
 MOST_VERSIONS = 40

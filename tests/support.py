@@ -1,5 +1,6 @@
 """Values and checks that several test files use."""
 
+import itertools
 import unittest
 
 from mergereach.schemas import Schema
@@ -8,6 +9,11 @@ FIELDS = [("color", "mine"), ("state", "theirs"), ("stock", "counter")]
 RED = ("red", "open", 10)
 BLUE = ("blue", "shut", 14)
 SIXTY = int("9" * 60)
+MIXED = Schema([("n", "counter"), ("a", "mine"), ("m", "counter"), ("b", "theirs")])
+ONLY_LABELS = Schema([("a", "mine"), ("b", "theirs")])
+ONLY_COUNTERS = Schema([("n", "counter"), ("m", "counter")])
+LARGE = Schema([("f" + letter, "mine" if letter in "aceg" else "theirs") for letter in "abcdefghijkl"]
+               + [("n" + letter, "counter") for letter in "abcd"])
 
 
 class Thing:
@@ -33,10 +39,57 @@ NO_NUMBERS = OTHERS + ["", "7", "red", [], [7], (), (7,), {}, {7: 7}]
 NO_DICTS = OTHERS + [0, 1, "", "red", [], ["color", "state", "stock"], (), RED, [("color", "red")]]
 NO_NAMES = NO_STRINGS + ["", "Red", "rED", "re d", " red", "red ", "red\n", "\n", "r3d", "9", "-", "red,", "re_d",
                          "re-d", "a:b", "`", "{", "@", "[", "abcdefghi", "abcdefghijklmnopqrstuvwxyz"]
+WRONG_LENGTHS = [(), ("red",), ("red", "open"), ("red", "open", 10, 11), ("red", "open", 10, "red"), (10,),
+                 (("red", "open", 10),)]
 
 
 def example_schema():
     return Schema(list(FIELDS))
+
+
+def wrong_versions():
+    """Values that are no versions of the example schema."""
+    wrong = NO_TUPLES + WRONG_LENGTHS + [("open", 10, "red"), (10, "open", "red"), ("red", 10, "open")]
+    for name in NO_NAMES:
+        wrong += [(name, "open", 10), ("red", name, 10)]
+    for number in NO_NUMBERS:
+        wrong.append(("red", "open", number))
+    return wrong
+
+
+def defined_value(kind, ours, base, theirs):
+    """The result of a pick for one field, in the words of the document."""
+    if kind == "mine":
+        return theirs if ours == base else ours
+    if kind == "theirs":
+        return ours if theirs == base else theirs
+    return ours + theirs - base
+
+
+def defined_pick(schema, ours, base, theirs):
+    return tuple(defined_value(kind, *values) for (_, kind), *values in zip(schema.fields(), ours, base, theirs))
+
+
+def produced(schema, known):
+    """All versions that picks ever produce from versions without counters."""
+    found = set(known)
+    while True:
+        results = {defined_pick(schema, *three) for three in itertools.product(found, repeat=3)}
+        if results <= found:
+            return found
+        found |= results
+
+
+def random_schema(source, most_labels=12, most_counters=4):
+    kinds = [source.choice(["mine", "theirs"]) for _ in range(source.randint(0, most_labels))]
+    kinds += ["counter"] * source.randint(0 if kinds else 1, most_counters)
+    source.shuffle(kinds)
+    return Schema([("abcdefghijklmnop"[at], kind) for at, kind in enumerate(kinds)])
+
+
+def random_version(source, schema):
+    return tuple(source.randint(-9, 9) if kind == "counter" else source.choice(["red", "blue", "gray"])
+                 for _, kind in schema.fields())
 
 
 def endless_list():

@@ -11,6 +11,12 @@ BUILTINS = set("""len range enumerate zip min max sum abs sorted reversed int st
     frozenset isinstance ord repr any all divmod Exception ValueError TypeError KeyError IndexError LookupError
     ZeroDivisionError ArithmeticError OverflowError RuntimeError NotImplementedError AttributeError StopIteration
     NotImplemented iter next super property staticmethod classmethod""".split())
+VALUE_METHODS = set("""append clear copy count endswith extend find get index insert isalnum isalpha isdigit islower
+    isspace isupper items join keys ljust lower lstrip partition pop remove replace reverse rfind rjust rpartition
+    rsplit rstrip setdefault split splitlines startswith strip update upper values zfill bit_length removeprefix
+    removesuffix""".split())
+ITERATED = ("zip", "enumerate", "reversed", "range", "items", "keys", "values")
+ITERATING = ("list", "tuple", "dict", "sorted", "sum", "any", "all", "enumerate", "zip", "min", "max")
 METHODS = set("""__init__ __eq__ __repr__ __str__ __len__ __enter__ __exit__ __call__ __iter__""".split())
 BARRED_WORDS = set("""type typing typing_extensions enum Enum IntEnum StrEnum Flag IntFlag Generic Protocol ABC ABCMeta
     namedtuple NamedTuple TypedDict TYPE_CHECKING abstractmethod dataclass overload contextmanager""".split())
@@ -34,6 +40,19 @@ def nodes(*kinds):
 
 def classes_and_methods():
     return [(node, item) for _, node in nodes(ast.ClassDef) for item in node.body if isinstance(item, ast.FunctionDef)]
+
+
+def defined_names(tree):
+    """The functions, classes and values that a file defines at module level."""
+    names = {item.name for item in tree.body if isinstance(item, (ast.FunctionDef, ast.ClassDef))}
+    return names | {target.id for item in tree.body if isinstance(item, ast.Assign) for target in item.targets}
+
+
+def called(node):
+    """The name of the builtin, function or method that is called, or None."""
+    if not isinstance(node, ast.Call):
+        return None
+    return getattr(node.func, "id", getattr(node.func, "attr", None))
 
 
 class Files(unittest.TestCase):
@@ -82,7 +101,7 @@ class Statements(unittest.TestCase):
             self.assertEqual(len(bound), len(set(bound)), name)
 
     def test_imports_name_the_defining_file_of_the_package(self):
-        defined = {name: {getattr(item, "name", None) for item in tree.body} for name, tree in trees().items()}
+        defined = {name: defined_names(tree) for name, tree in trees().items()}
         for name, node in nodes(ast.ImportFrom):
             self.assertEqual(node.level, 0)
             self.assertRegex(node.module, r"^mergereach\.[a-z]+$", name)
@@ -117,6 +136,85 @@ class Statements(unittest.TestCase):
             if getattr(node.func, "id", "") in ("any", "all", "min", "max", "sum", "sorted"):
                 for argument in node.args:
                     self.assertNotIsInstance(argument, ast.GeneratorExp, name)
+
+
+    def test_iterators_are_iterated_on_the_spot(self):
+        for name, tree in trees().items():
+            places = [node.iter for node in ast.walk(tree) if isinstance(node, (ast.For, ast.comprehension))]
+            places += [node.args[0] for node in ast.walk(tree) if called(node) in ITERATING and node.args]
+            for node in ast.walk(tree):
+                if called(node) in ITERATED:
+                    self.assertIn(node, places, f"{name}: {ast.unparse(node)}")
+
+    def test_generator_expressions_and_sets_are_not_used(self):
+        self.assertEqual(nodes(ast.GeneratorExp, ast.Set, ast.SetComp, ast.Lambda, ast.Yield, ast.YieldFrom), [])
+        for name, node in nodes(ast.Call):
+            self.assertNotIn(called(node), ("set", "frozenset"), name)
+
+    def test_what_a_loop_iterates_over_is_not_modified_in_it(self):
+        for name, loop in nodes(ast.For):
+            over = {node.id for node in ast.walk(loop.iter) if isinstance(node, ast.Name)}
+            for node in ast.walk(ast.Module(loop.body, [])):
+                if isinstance(node, ast.Call) and isinstance(node.func, ast.Attribute):
+                    if node.func.attr in ("append", "extend", "pop", "insert", "remove", "clear", "update"):
+                        self.assertNotIn(getattr(node.func.value, "id", None), over, name)
+
+    def test_only_own_errors_are_caught_and_errors_are_made_on_the_spot(self):
+        own = {node.name for _, node in nodes(ast.ClassDef)}
+        for name, node in nodes(ast.ExceptHandler):
+            self.assertIn(node.type.id, own, name)
+        for name, node in nodes(ast.Raise):
+            self.assertIn(node.exc.func.id, own, name)
+
+    def test_there_are_no_annotations(self):
+        self.assertEqual(nodes(ast.AnnAssign), [])
+        for name, node in nodes(ast.FunctionDef):
+            self.assertIsNone(node.returns, name)
+        for name, node in nodes(ast.arg):
+            self.assertIsNone(node.annotation, name)
+
+    def test_builtins_and_methods_of_values_have_no_keywords(self):
+        own = {node.name for _, node in nodes(ast.FunctionDef, ast.ClassDef)}
+        for name, node in nodes(ast.Call):
+            if called(node) not in own:
+                self.assertEqual(node.keywords, [], f"{name}: {ast.unparse(node)}")
+
+
+class Classes(unittest.TestCase):
+    def test_a_class_contains_methods_and_plain_values_only(self):
+        for name, node in nodes(ast.ClassDef):
+            for item in node.body[1:]:
+                self.assertIsInstance(item, (ast.FunctionDef, ast.Assign), name)
+                if isinstance(item, ast.Assign):
+                    self.assertIsInstance(item.value, ast.Constant, name)
+
+    def test_methods_that_only_look_change_nothing(self):
+        for node, method in classes_and_methods():
+            decorators = [decorator.id for decorator in method.decorator_list]
+            if method.name in ("__eq__", "__len__", "__repr__") or "property" in decorators:
+                statements = [item for item in method.body if not isinstance(item, ast.Expr)]
+                self.assertEqual([type(item) for item in statements], [ast.Return], f"{node.name}.{method.name}")
+
+    def test_attributes_are_stored_by_the_constructor_only(self):
+        for node, method in classes_and_methods():
+            for item in ast.walk(method):
+                if isinstance(item, ast.Attribute) and not isinstance(item.ctx, ast.Load):
+                    self.assertEqual((method.name, item.value.id), ("__init__", "self"), node.name)
+
+    def test_each_attribute_exists(self):
+        known = {method.name for _, method in classes_and_methods()} | VALUE_METHODS
+        known |= {node.attr for _, node in nodes(ast.Attribute) if isinstance(node.ctx, ast.Store)}
+        known |= {target.id for _, node in nodes(ast.ClassDef) for item in node.body if isinstance(item, ast.Assign)
+                  for target in item.targets}
+        for name, node in nodes(ast.Attribute):
+            self.assertIn(node.attr, known, name)
+
+    def test_no_own_name_is_a_method_of_a_builtin_value(self):
+        taken = {name for kind in (str, int, list, dict, set, tuple, bytes) for name in dir(kind)}
+        allowed = METHODS | {"index", "count"}
+        found = {method.name for _, method in classes_and_methods()}
+        found |= {node.attr for _, node in nodes(ast.Attribute) if isinstance(node.ctx, ast.Store)}
+        self.assertEqual(found & taken - allowed, set())
 
 
 class Naming(unittest.TestCase):

@@ -3,23 +3,8 @@ from collections import OrderedDict, defaultdict
 
 from mergereach.errors import InvalidVersion, InvalidVersions
 from mergereach.schemas import Schema, is_version, known_versions, labels_of, vector_of, version_of
-from tests.support import (BLUE, FIELDS, NO_DICTS, NO_LISTS, NO_NAMES, NO_NUMBERS, NO_TUPLES, RED, SIXTY, Case,
-                           EqualToAll, deep_list, endless_list, example_schema)
-
-MIXED = Schema([("n", "counter"), ("a", "mine"), ("m", "counter"), ("b", "theirs")])
-ONLY_LABELS = Schema([("a", "mine"), ("b", "theirs")])
-ONLY_COUNTERS = Schema([("n", "counter"), ("m", "counter")])
-WRONG_LENGTHS = [(), ("red",), ("red", "open"), ("red", "open", 10, 11), ("red", "open", 10, "red"), (10,),
-                 (("red", "open", 10),)]
-
-
-def wrong_versions():
-    wrong = NO_TUPLES + WRONG_LENGTHS + [("open", 10, "red"), (10, "open", "red"), ("red", 10, "open")]
-    for name in NO_NAMES:
-        wrong += [(name, "open", 10), ("red", name, 10)]
-    for number in NO_NUMBERS:
-        wrong.append(("red", "open", number))
-    return wrong
+from tests.support import (BLUE, FIELDS, MIXED, NO_DICTS, NO_LISTS, NO_NAMES, NO_NUMBERS, ONLY_COUNTERS, ONLY_LABELS,
+                           RED, SIXTY, Case, EqualToAll, deep_list, endless_list, example_schema, wrong_versions)
 
 
 class Versions(Case):
