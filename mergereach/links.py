@@ -1,7 +1,7 @@
 """Links between label fields: which of their values can be made to meet in one version."""
 
 from mergereach.errors import UnknownField
-from mergereach.schemas import MINE, known_versions
+from mergereach.schemas import COUNTER, MINE, known_versions
 
 MOST_LINKED_VALUES = 2
 
@@ -26,16 +26,18 @@ def seen_values(schema, versions, field):
     return different([version[place] for version in known])
 
 
+def link_mark(schema, known, place):
+    """Returns a value that is the same for two label fields exactly if they are linked."""
+    # The pattern says which versions have equal values, the second part is the policy where it matters.
+    values = [version[place] for version in known]
+    pattern = tuple([values.index(value) for value in values])
+    few = len(different(values)) <= MOST_LINKED_VALUES
+    return (pattern, None if few else schema.fields()[place][1])
+
+
 def are_linked_places(schema, known, one, other):
     """Returns whether the label fields at these two places are linked."""
-    values = different([version[one] for version in known])
-    others = different([version[other] for version in known])
-    pairs = different([(version[one], version[other]) for version in known])
-    # As many pairs as values in each field: each value of the one field stands with one of the other only.
-    if len(values) != len(pairs) or len(others) != len(pairs):
-        return False
-    fields = schema.fields()
-    return fields[one][1] == fields[other][1] or len(pairs) <= MOST_LINKED_VALUES
+    return link_mark(schema, known, one) == link_mark(schema, known, other)
 
 
 def are_linked(schema, versions, one, other):
@@ -45,18 +47,21 @@ def are_linked(schema, versions, one, other):
     return are_linked_places(schema, known, place, label_place(schema, other))
 
 
+def block_places(schema, known):
+    """Returns the list of the tuples of the places of each block."""
+    blocks = {}
+    for place, (name, kind) in enumerate(schema.fields()):
+        if kind != COUNTER:
+            mark = link_mark(schema, known, place)
+            blocks[mark] = blocks.get(mark, ()) + (place,)
+    return [blocks[mark] for mark in blocks]
+
+
 def blocks_of(schema, versions):
     """Returns the list of the blocks."""
     known = known_versions(schema, versions)
     names = schema.names()
-    places = [names.index(name) for name in schema.label_names()]
-    blocks = []
-    for place in places:
-        linked = [other for other in places if are_linked_places(schema, known, place, other)]
-        # Being linked is an equivalence: a block is met again at each of its fields, first at the first one.
-        if linked[0] == place:
-            blocks.append(tuple([names[other] for other in linked]))
-    return blocks
+    return [tuple([names[place] for place in places]) for places in block_places(schema, known)]
 
 
 def field_tuples(schema, versions, fields):
@@ -72,6 +77,14 @@ def index_with(known, place, value):
         for index, version in enumerate(known):
             if version[place] == value:
                 return index
+    return None
+
+
+def index_with_both(known, place, value, spot, second):
+    """Returns the index of the first version with these values at the two places, or None."""
+    for index, version in enumerate(known):
+        if version[place] == value and version[spot] == second:
+            return index
     return None
 
 
@@ -137,9 +150,9 @@ def meeting_script(schema, versions, one, value, other, second):
     partner = index_with(known, spot, second)
     if index is None or partner is None:
         return None
-    for at, version in enumerate(known):
-        if version[place] == value and version[spot] == second:
-            return [(at, at, at)]
+    both = index_with_both(known, place, value, spot, second)
+    if both is not None:
+        return [(both, both, both)]
     if are_linked_places(schema, known, place, spot):
         return None
     return crossing_script(schema, known, place, index, spot, partner)

@@ -137,6 +137,16 @@ def vector_of(schema, version):
     return tuple([value for value in version if isinstance(value, int)])
 
 
+def version_with(schema, labels, vector):
+    """Returns the version with these labels and this vector."""
+    values = list(labels)
+    entries = list(vector)
+    for place, (name, kind) in enumerate(schema.fields()):
+        if kind == COUNTER:
+            values.insert(place, entries.pop(0))
+    return tuple(values)
+
+
 def known_versions(schema, versions):
     """Returns the list of the versions if they can be known versions."""
     if not isinstance(versions, (list, tuple)) or not 1 <= len(versions) <= MOST_VERSIONS:

@@ -1,6 +1,7 @@
 """Values and checks that several test files use."""
 
 import itertools
+import random
 import unittest
 
 from mergereach.schemas import Schema
@@ -9,6 +10,7 @@ FIELDS = [("color", "mine"), ("state", "theirs"), ("stock", "counter")]
 RED = ("red", "open", 10)
 BLUE = ("blue", "shut", 14)
 SIXTY = int("9" * 60)
+POLICIES = ("mine", "theirs")
 MIXED = Schema([("n", "counter"), ("a", "mine"), ("m", "counter"), ("b", "theirs")])
 ONLY_LABELS = Schema([("a", "mine"), ("b", "theirs")])
 ONLY_COUNTERS = Schema([("n", "counter"), ("m", "counter")])
@@ -80,6 +82,39 @@ def produced(schema, known):
         found |= results
 
 
+def label_schema(*policies):
+    return Schema([("abcdefghijkl"[at], policy) for at, policy in enumerate(policies)])
+
+
+def defined_link(schema, known, one, other):
+    """Whether two label fields are linked, in the words of the document."""
+    at, to = schema.names().index(one), schema.names().index(other)
+    together = all((u[at] == v[at]) == (u[to] == v[to]) for u in known for v in known)
+    few = max(len({version[place] for version in known}) for place in (at, to)) <= 2
+    return together and (schema.kind(one) == schema.kind(other) or few)
+
+
+def small_cases():
+    """Schemas with two label fields of all policies, and all lists of up to three versions with up to three values."""
+    versions = list(itertools.product("xyz", repeat=2))
+    for policies in itertools.product(POLICIES, repeat=2):
+        for count in (1, 2, 3):
+            for known in itertools.combinations(versions, count):
+                yield label_schema(*policies), list(known)
+
+
+def random_cases(seed, count, most_fields=4):
+    source = random.Random(seed)
+    for _ in range(count):
+        schema = label_schema(*[source.choice(POLICIES) for _ in range(source.randint(1, most_fields))])
+        letters = "xyz"[:source.randint(1, 3)]
+        known = [tuple(source.choice(letters) for _ in range(len(schema))) for _ in range(source.randint(1, 5))]
+        # Copied columns, so that many fields are linked.
+        if len(schema) > 1 and source.random() < 0.6:
+            known = [(version[0],) + version[:-1] for version in known]
+        yield schema, known
+
+
 def random_schema(source, most_labels=12, most_counters=4):
     kinds = [source.choice(["mine", "theirs"]) for _ in range(source.randint(0, most_labels))]
     kinds += ["counter"] * source.randint(0 if kinds else 1, most_counters)
@@ -90,6 +125,63 @@ def random_schema(source, most_labels=12, most_counters=4):
 def random_version(source, schema):
     return tuple(source.randint(-9, 9) if kind == "counter" else source.choice(["red", "blue", "gray"])
                  for _, kind in schema.fields())
+
+
+def joined(schema, labels, vector):
+    """The version with these labels and this vector."""
+    labels, vector = iter(labels), iter(vector)
+    return tuple(next(vector if kind == "counter" else labels) for _, kind in schema.fields())
+
+
+def some_in_reach(source, reach, count, great=9):
+    """Versions with tuples of the blocks and vectors of the coset, chosen at random."""
+    schema, known = reach.schema(), reach.versions()
+    names = schema.names()
+    counters = [place for place, (_, kind) in enumerate(schema.fields()) if kind == "counter"]
+    found = []
+    for _ in range(count):
+        version = list(source.choice(known))
+        for block in reach.blocks():
+            row = source.choice(known)
+            for name in block:
+                version[names.index(name)] = row[names.index(name)]
+        for one, other in itertools.pairwise(known[:6]):
+            times = source.randint(-great, great)
+            for place in counters:
+                version[place] += times * (one[place] - other[place])
+        found.append(tuple(version))
+    return found
+
+
+def satisfies_by_words(schema, version, rule):
+    """Whether the version satisfies the rule, in the words of the document."""
+    if rule[0] == "either":
+        return any(satisfies_by_words(schema, version, part) for part in rule[1:])
+    if rule[0] == "labels":
+        return tuple(version[schema.names().index(name)] for name in rule[1]) in set(rule[2])
+    counters = [version[place] for place, (_, kind) in enumerate(schema.fields()) if kind == "counter"]
+    gap = sum(times * counter for times, counter in zip(rule[1], counters)) - rule[2]
+    return gap == 0 if rule[3] == 0 else gap % rule[3] == 0
+
+
+def random_rule(source, schema, known=()):
+    """A rule of any kind; about half of those made for known versions are kept."""
+    labels, counters = schema.label_names(), schema.counter_names()
+    values = ["red", "blue", "gray"]
+    fields = tuple(source.sample(labels, source.randint(1, min(2, len(labels))))) if labels else ()
+    rows = [row for row in itertools.product(values, repeat=len(fields)) if source.random() < 0.9]
+    rows = [row for row in rows if source.random() < 0.7] if not known else rows
+    source.shuffle(rows)
+    label_rule = ("labels", fields, tuple(rows))
+    times = tuple(source.randint(-2, 2) for _ in counters)
+    constant = source.randint(-3, 3)
+    if known:
+        place = [place for place, (_, kind) in enumerate(schema.fields()) if kind == "counter"]
+        constant = sum(one * known[0][at] for one, at in zip(times, place))
+    counter_rule = ("counters", times, constant, source.choice([0, 1, 2, 3]))
+    if not labels:
+        return counter_rule
+    return source.choice([label_rule, counter_rule, ("either", label_rule, counter_rule)])
 
 
 def endless_list():

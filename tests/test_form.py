@@ -22,6 +22,8 @@ BARRED_WORDS = set("""type typing typing_extensions enum Enum IntEnum StrEnum Fl
     namedtuple NamedTuple TypedDict TYPE_CHECKING abstractmethod dataclass overload contextmanager""".split())
 BARRED_NAMES = set("""register mro elements open input law version_info with_traceback add_note format format_map
     exit quit help license dir vars id eval exec compile globals locals getattr setattr hasattr delattr""".split())
+# The keywords that calls of builtins may have.
+BUILTIN_KEYWORDS = {"enumerate": ["start"], "max": ["default"], "min": ["default"]}
 MODULE_STATEMENTS = (ast.Expr, ast.ImportFrom, ast.FunctionDef, ast.ClassDef, ast.Assign)
 BARRED_NODES = (ast.Global, ast.Import, ast.AsyncFunctionDef, ast.AsyncFor, ast.AsyncWith, ast.Await, ast.Div)
 
@@ -147,9 +149,28 @@ class Statements(unittest.TestCase):
                     self.assertIn(node, places, f"{name}: {ast.unparse(node)}")
 
     def test_generator_expressions_and_sets_are_not_used(self):
-        self.assertEqual(nodes(ast.GeneratorExp, ast.Set, ast.SetComp, ast.Lambda, ast.Yield, ast.YieldFrom), [])
+        self.assertEqual(nodes(ast.GeneratorExp, ast.Set, ast.SetComp, ast.Lambda, ast.YieldFrom, ast.NamedExpr), [])
         for name, node in nodes(ast.Call):
             self.assertNotIn(called(node), ("set", "frozenset"), name)
+
+    def test_generators_have_names_of_their_own_and_are_iterated_at_once(self):
+        functions = [node for _, node in nodes(ast.FunctionDef)]
+        generators = [node for node in functions if any(isinstance(item, ast.Yield) for item in ast.walk(node))]
+        for node in generators:
+            self.assertEqual([other.name for other in functions].count(node.name), 1)
+            self.assertEqual(node.decorator_list, [])
+            for item in ast.walk(node):
+                self.assertNotIsInstance(item, (ast.Try, ast.With), node.name)
+                if isinstance(item, ast.Return):
+                    self.assertIsNone(item.value, node.name)
+        names = {node.name for node in generators}
+        for name, tree in trees().items():
+            walked = list(ast.walk(tree))
+            places = [node.iter for node in walked if isinstance(node, (ast.For, ast.comprehension))]
+            places += [node.args[0] for node in walked if called(node) in ITERATING and node.args]
+            for node in walked:
+                if called(node) in names:
+                    self.assertIn(node, places, f"{name}: {ast.unparse(node)}")
 
     def test_what_a_loop_iterates_over_is_not_modified_in_it(self):
         for name, loop in nodes(ast.For):
@@ -177,7 +198,9 @@ class Statements(unittest.TestCase):
         own = {node.name for _, node in nodes(ast.FunctionDef, ast.ClassDef)}
         for name, node in nodes(ast.Call):
             if called(node) not in own:
-                self.assertEqual(node.keywords, [], f"{name}: {ast.unparse(node)}")
+                allowed = BUILTIN_KEYWORDS.get(called(node), [])
+                for keyword in node.keywords:
+                    self.assertIn(keyword.arg, allowed, f"{name}: {ast.unparse(node)}")
 
 
 class Classes(unittest.TestCase):

@@ -18,6 +18,10 @@ FUNCTIONS = {
               "blocks_of(schema, versions)", "field_tuples(schema, versions, fields)",
               "meeting_script(schema, versions, one, value, other, second)"],
     "cosets": ["separates(coset, vector, thing)"],
+    "reach": ["reduced_versions(schema, versions)"],
+    "refusals": ["refusal_of(reach, version)", "is_refusal(reach, version, thing)"],
+    "rules": ["is_rule(schema, thing)", "satisfies(schema, version, rule)", "is_kept(reach, rule)",
+              "breaking_script(reach, rule)", "first_broken(reach, rules)"],
 }
 METHODS = {
     ("schemas", "Schema"): ["__init__(self, fields)", "__eq__(self, other)", "__len__(self)", "__repr__(self)",
@@ -27,6 +31,9 @@ METHODS = {
                           "stepped(cls, start, *steps)", "vectors(self)", "width(self)", "basis(self)", "rank(self)",
                           "contains(self, vector)", "is_within(self, other)", "combination(self, vector)",
                           "separating(self, vector)"],
+    ("reach", "Reach"): ["__init__(self, schema, versions)", "__eq__(self, other)", "schema(self)", "versions(self)",
+                         "blocks(self)", "coset(self)", "contains(self, version)", "label_count(self)",
+                         "each_labels(self)", "is_within(self, other)", "script_to(self, version)"],
 }
 DECORATORS = {("Schema", "read"): ["classmethod"], ("Coset", "stepped"): ["classmethod"],
               ("Coset", "rank"): ["property"]}

@@ -6,48 +6,14 @@ from mergereach.errors import InvalidVersions, UnknownField
 from mergereach.links import are_linked, blocks_of, field_tuples, meeting_script, seen_values
 from mergereach.schemas import Schema
 from mergereach.scripts import result_of, run_script
-from tests.support import (BLUE, FIELDS, LARGE, MIXED, NO_LISTS, NO_STRINGS, ONLY_COUNTERS, ONLY_LABELS, RED, SIXTY,
-                           Case, EqualToAll, deep_list, endless_list, example_schema, produced, random_version,
-                           wrong_versions)
+from tests.support import (BLUE, FIELDS, LARGE, MIXED, NO_LISTS, NO_STRINGS, ONLY_COUNTERS, ONLY_LABELS, POLICIES, RED,
+                           SIXTY, Case, EqualToAll, deep_list, defined_link, endless_list, example_schema,
+                           label_schema, produced, random_cases, random_version, small_cases, wrong_versions)
 
 KNOWN = [RED, BLUE]
 THREE = KNOWN + [("gray", "held", 10)]
-POLICIES = ("mine", "theirs")
 # Nothing here is the name of a label field of the example schema.
 NO_FIELDS = NO_STRINGS + ["", "stock", "Color", "colour", "color ", " color", "red", "color,state", "0"]
-
-
-def label_schema(*policies):
-    return Schema([("abcdefghijkl"[at], policy) for at, policy in enumerate(policies)])
-
-
-def defined_link(schema, known, one, other):
-    """Whether two label fields are linked, in the words of the document."""
-    at, to = schema.names().index(one), schema.names().index(other)
-    together = all((u[at] == v[at]) == (u[to] == v[to]) for u in known for v in known)
-    few = max(len({version[place] for version in known}) for place in (at, to)) <= 2
-    return together and (schema.kind(one) == schema.kind(other) or few)
-
-
-def small_cases():
-    """Schemas with two label fields of all policies, and all lists of up to three versions with up to three values."""
-    versions = list(itertools.product("xyz", repeat=2))
-    for policies in itertools.product(POLICIES, repeat=2):
-        for count in (1, 2, 3):
-            for known in itertools.combinations(versions, count):
-                yield label_schema(*policies), list(known)
-
-
-def random_cases(seed, count, most_fields=4):
-    source = random.Random(seed)
-    for _ in range(count):
-        schema = label_schema(*[source.choice(POLICIES) for _ in range(source.randint(1, most_fields))])
-        letters = "xyz"[:source.randint(1, 3)]
-        known = [tuple(source.choice(letters) for _ in range(len(schema))) for _ in range(source.randint(1, 5))]
-        # Copied columns, so that many fields are linked.
-        if len(schema) > 1 and source.random() < 0.6:
-            known = [(version[0],) + version[:-1] for version in known]
-        yield schema, known
 
 
 class Calls(Case):
