@@ -112,8 +112,9 @@ class Reach:
 
 def reduced_versions(schema, versions):
     """Returns the list of the versions that are left after reducing."""
-    left = different(known_versions(schema, versions))
-    for version in left[::-1]:
+    distinct = different(known_versions(schema, versions))
+    left = list(distinct)
+    for version in distinct[::-1]:
         others = [other for other in left if other != version]
         if len(others) > 0 and Reach(schema, others).contains(version):
             left = others

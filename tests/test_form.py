@@ -183,9 +183,35 @@ class Statements(unittest.TestCase):
     def test_only_own_errors_are_caught_and_errors_are_made_on_the_spot(self):
         own = {node.name for _, node in nodes(ast.ClassDef)}
         for name, node in nodes(ast.ExceptHandler):
-            self.assertIn(node.type.id, own, name)
+            for caught in getattr(node.type, "elts", [node.type]):
+                self.assertIn(caught.id, own, name)
         for name, node in nodes(ast.Raise):
             self.assertIn(node.exc.func.id, own, name)
+            self.assertIn(getattr(node.cause, "value", None), (None,), name)
+
+    def test_a_finally_only_appends(self):
+        for name, node in nodes(ast.Try):
+            for statement in node.finalbody:
+                self.assertEqual(called(statement.value), "append", name)
+                for item in statement.value.args[0].elts:
+                    self.assertIsInstance(item, (ast.Constant, ast.Name), name)
+
+    def test_lists_and_dicts_at_module_level_are_not_used(self):
+        for name, tree in trees().items():
+            for statement in tree.body:
+                if isinstance(statement, ast.Assign):
+                    for node in ast.walk(statement.value):
+                        self.assertIsInstance(node, (ast.Constant, ast.Tuple, ast.Load), name)
+
+    def test_stars_stand_before_names_only(self):
+        for name, node in nodes(ast.Starred):
+            self.assertIsInstance(node.value, ast.Name, name)
+
+    def test_default_values_are_plain(self):
+        for name, node in nodes(ast.arguments):
+            self.assertEqual(node.posonlyargs, [], name)
+            for value in node.defaults + [one for one in node.kw_defaults if one is not None]:
+                self.assertTrue(isinstance(value, ast.Constant) or ast.unparse(value) in ("()", "KEPT_LEVELS"), name)
 
     def test_there_are_no_annotations(self):
         self.assertEqual(nodes(ast.AnnAssign), [])
@@ -218,11 +244,27 @@ class Classes(unittest.TestCase):
                 statements = [item for item in method.body if not isinstance(item, ast.Expr)]
                 self.assertEqual([type(item) for item in statements], [ast.Return], f"{node.name}.{method.name}")
 
-    def test_attributes_are_stored_by_the_constructor_only(self):
+    def test_attributes_of_immutable_objects_are_stored_by_the_constructor_only(self):
         for node, method in classes_and_methods():
             for item in ast.walk(method):
                 if isinstance(item, ast.Attribute) and not isinstance(item.ctx, ast.Load):
-                    self.assertEqual((method.name, item.value.id), ("__init__", "self"), node.name)
+                    self.assertIsInstance(item.value, ast.Name)
+                    if node.name in ("Schema", "Coset", "Reach"):
+                        self.assertEqual((method.name, item.value.id), ("__init__", "self"), node.name)
+
+    def test_each_attribute_is_stored_by_a_constructor(self):
+        for name, node in nodes(ast.Attribute):
+            if isinstance(node.ctx, ast.Store):
+                first = {item.attr for _, method in classes_and_methods() if method.name == "__init__"
+                         for item in ast.walk(method) if isinstance(item, ast.Attribute)}
+                self.assertIn(node.attr, first, name)
+
+    def test_super_calls_methods_only(self):
+        for name, tree in trees().items():
+            calls = [node.func for node in ast.walk(tree) if isinstance(node, ast.Call)]
+            for node in ast.walk(tree):
+                if isinstance(node, ast.Attribute) and called(node.value) == "super":
+                    self.assertIn(node, calls, name)
 
     def test_each_attribute_exists(self):
         known = {method.name for _, method in classes_and_methods()} | VALUE_METHODS

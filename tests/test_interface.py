@@ -1,4 +1,4 @@
-"""The names, parameters and places of the interface, as far as it is built."""
+"""The names, parameters and places of the interface."""
 
 import ast
 import importlib
@@ -22,6 +22,10 @@ FUNCTIONS = {
     "refusals": ["refusal_of(reach, version)", "is_refusal(reach, version, thing)"],
     "rules": ["is_rule(schema, thing)", "satisfies(schema, version, rule)", "is_kept(reach, rule)",
               "breaking_script(reach, rule)", "first_broken(reach, rules)"],
+    "search": ["round_versions(schema, versions, count, *, limit=40)", "each_round(schema, versions, *, limit=40)",
+               "round_of(schema, versions, version, *, limit=40)", "first_break(schema, versions, rule, *, limit=40)",
+               "all_in_reach(schema, versions, *, limit=400)"],
+    "grouptexts": ["rule_text(schema, rule)", "read_rule(schema, text)", "group_text(group)", "read_group(text)"],
 }
 METHODS = {
     ("schemas", "Schema"): ["__init__(self, fields)", "__eq__(self, other)", "__len__(self)", "__repr__(self)",
@@ -34,9 +38,21 @@ METHODS = {
     ("reach", "Reach"): ["__init__(self, schema, versions)", "__eq__(self, other)", "schema(self)", "versions(self)",
                          "blocks(self)", "coset(self)", "contains(self, version)", "label_count(self)",
                          "each_labels(self)", "is_within(self, other)", "script_to(self, version)"],
+    ("groups", "Group"): ["__init__(self, schema, versions, replicas, *, rules=())", "__eq__(self, other)",
+                          "__len__(self)", "schema(self)", "replicas(self)", "rules(self)", "admitted(self)",
+                          "quota(self)", "message_count(self)", "set_quota(self, limit)", "first_versions(self)",
+                          "first_rules(self)", "held(self, name)", "licence(self, name)", "create(self, name, version)",
+                          "pick(self, name, ours, base, theirs)", "propose(self, name, version)",
+                          "add_rule(self, rule)", "announce(self)", "send(self, name)", "deliver(self, number, *, to)",
+                          "operations(self)", "copied(self)"],
+    ("console", "Console"): ["__init__(self, text)", "execute(self, command)", "run(self, commands)", "group(self)",
+                             "log(self)"],
+    ("console", "Recorder"): ["__init__(self, text)", "execute(self, command)", "run(self, commands)",
+                              "transcript(self)"],
 }
 DECORATORS = {("Schema", "read"): ["classmethod"], ("Coset", "stepped"): ["classmethod"],
-              ("Coset", "rank"): ["property"]}
+              ("Coset", "rank"): ["property"], ("Group", "quota"): ["property"],
+              ("Group", "message_count"): ["property"]}
 
 
 def tree_of(name):

@@ -228,7 +228,7 @@ class Judging(Case):
         things += [("link", thing, "state") for thing in NO_STRINGS] + [("link", "color", thing) for thing in NO_STRINGS]
         things += [(thing, "color", "state") for thing in NO_STRINGS] + [("counters", (1,), one) for one in NO_NUMBERS]
         things += [("counters", (one,), 4) for one in NO_NUMBERS] + [("counters", one, 4) for one in NO_TUPLES]
-        things += [(one, (1,), 4) for one in NO_STRINGS]
+        things += [(one, (1,), 4) for one in NO_STRINGS + ["", "other", "Counters", "counters ", "value", "link"]]
         for version, thing in itertools.product(versions, things):
             self.assertIs(is_refusal(reach, version, thing), False)
 
